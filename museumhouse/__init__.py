@@ -1,0 +1,1 @@
+"""A museum's things: where each was, what light it had, and the shows it is booked for."""

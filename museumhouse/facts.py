@@ -1,0 +1,84 @@
+"""What is so of a museum. Places, things and shows are told by their numbers, unless the name says otherwise."""
+
+from museumhouse.bounds import AWAY, HALL, HARM_BAD_FOR_HALL, MOST_SHOWS
+
+
+def has_place(museum, place):
+    return place < len(museum.places)
+
+
+def has_thing(museum, thing):
+    return thing < len(museum.things)
+
+
+def has_show(museum, show):
+    return show < MOST_SHOWS and museum.shows[show] is not None
+
+
+def is_hall(museum, place):
+    return museum.places[place].kind == HALL
+
+
+def is_away(museum, place):
+    return museum.places[place].kind == AWAY
+
+
+def things_at(museum, place):
+    return [number for number, kept in enumerate(museum.things) if kept.place == place]
+
+
+def is_full(museum, place):
+    return len(things_at(museum, place)) >= museum.places[place].room
+
+
+def is_lent(museum, thing):
+    return museum.things[thing].back is not None
+
+
+def is_harmed(museum, thing):
+    """So much that it's bad for a hall."""
+    return museum.things[thing].harm >= HARM_BAD_FOR_HALL
+
+
+def is_bad_there(museum, thing, place):
+    return is_harmed(museum, thing) and is_hall(museum, place)
+
+
+def all_shows(museum):
+    """The shows themselves, not their numbers."""
+    return [kept for kept in museum.shows if kept is not None]
+
+
+def shows_with(museum, thing):
+    """The shows themselves for which the thing is booked, hung or not."""
+    return [kept for kept in all_shows(museum) if thing in kept.booked]
+
+
+def is_hanging(museum, thing):
+    return any([kept.hung for kept in shows_with(museum, thing)])
+
+
+def meets(kept, first, over):
+    """Whether some day from first to the one before over is of this show."""
+    return kept.first < over and first < kept.over
+
+
+def any_meets(shows, first, over):
+    return any([meets(kept, first, over) for kept in shows])
+
+
+def light_to(museum, thing, day):
+    """The thing's light to a day that isn't after today."""
+    kept = museum.things[thing]
+    return kept.lights[max(day - kept.came, 0)]
+
+
+def light_with(museum, thing, shows):
+    """What its light will be with these shows, one at least; no two of them meet, so their days add up."""
+    here = museum.places[museum.things[thing].place].light
+    end = max([kept.over for kept in shows])
+    total = light_to(museum, thing, museum.today) + max(end - museum.today, 0) * here
+    for kept in shows:
+        days = max(kept.over - max(kept.first, museum.today), 0)
+        total = total + days * (museum.places[kept.hall].light - here)
+    return total

@@ -1,0 +1,50 @@
+"""What a museum keeps: places, things, shows and the log."""
+
+from museumhouse.bounds import MOST_ROOM, MOST_SHOWS, STORE
+
+
+class Place:
+    """Its light is the one that holds today; what it was before is kept in the light of the things."""
+
+    def __init__(self, up, kind, room, light):
+        self.up = up
+        self.kind = kind
+        self.room = room
+        self.light = light
+
+
+class Thing:
+    """The name is the list of its bytes. back is None unless it's lent."""
+
+    def __init__(self, name, material, limit, came, place):
+        self.name = name
+        self.material = material
+        self.limit = limit
+        self.harm = 0
+        self.came = came
+        self.place = place
+        self.back = None
+        # Its light to each day from the one when it came: written once, as a day ends, so that the past stays.
+        self.lights = [0]
+
+
+class Show:
+    """It lasts from its first day to the one before over. booked has the numbers of things."""
+
+    def __init__(self, hall, first, over):
+        self.hall = hall
+        self.first = first
+        self.over = over
+        self.hung = False
+        self.booked = []
+
+
+class Museum:
+    """A free place of the list of shows is None. An entry is its call's number and what the call was given."""
+
+    def __init__(self):
+        self.today = 0
+        self.places = [Place(None, STORE, MOST_ROOM, 0)]
+        self.things = []
+        self.shows = [None] * MOST_SHOWS
+        self.entries = []
