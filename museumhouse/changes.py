@@ -66,8 +66,8 @@ def carry_out(museum, call, numbers, letters):
     raise NotImplementedError(f"call {call}")
 
 
+# Nothing is touched before all refusals are ruled out, so a refused call leaves all as it was.
 def change(museum, call, numbers, letters):
-    """Nothing is touched before all refusals are ruled out, so a refused call leaves all as it was."""
     refusal = refusal_of(museum, call, numbers, letters)
     if refusal != NOT_REFUSED:
         return refusal

@@ -1,4 +1,4 @@
-"""What is so of a museum. Places, things and shows are told by their numbers, unless the name says otherwise."""
+"""What is so of a museum. Places, things and shows are told by their numbers, unless a remark says otherwise."""
 
 from museumhouse.bounds import AWAY, HALL, HARM_BAD_FOR_HALL, MOST_SHOWS
 
@@ -35,8 +35,8 @@ def is_lent(museum, thing):
     return museum.things[thing].back is not None
 
 
+# So much that it's bad for a hall.
 def is_harmed(museum, thing):
-    """So much that it's bad for a hall."""
     return museum.things[thing].harm >= HARM_BAD_FOR_HALL
 
 
@@ -44,13 +44,13 @@ def is_bad_there(museum, thing, place):
     return is_harmed(museum, thing) and is_hall(museum, place)
 
 
+# The shows themselves, not their numbers.
 def all_shows(museum):
-    """The shows themselves, not their numbers."""
     return [kept for kept in museum.shows if kept is not None]
 
 
+# The shows themselves for which the thing is booked, hung or not.
 def shows_with(museum, thing):
-    """The shows themselves for which the thing is booked, hung or not."""
     return [kept for kept in all_shows(museum) if thing in kept.booked]
 
 
@@ -58,8 +58,8 @@ def is_hanging(museum, thing):
     return any([kept.hung for kept in shows_with(museum, thing)])
 
 
+# Whether some day from first to the one before over is of this show.
 def meets(kept, first, over):
-    """Whether some day from first to the one before over is of this show."""
     return kept.first < over and first < kept.over
 
 
@@ -67,14 +67,14 @@ def any_meets(shows, first, over):
     return any([meets(kept, first, over) for kept in shows])
 
 
+# The thing's light to a day that isn't after today.
 def light_to(museum, thing, day):
-    """The thing's light to a day that isn't after today."""
     kept = museum.things[thing]
     return kept.lights[max(day - kept.came, 0)]
 
 
+# What its light will be with these shows, one at least; no two of them meet, so their days add up.
 def light_with(museum, thing, shows):
-    """What its light will be with these shows, one at least; no two of them meet, so their days add up."""
     here = museum.places[museum.things[thing].place].light
     end = max([kept.over for kept in shows])
     total = light_to(museum, thing, museum.today) + max(end - museum.today, 0) * here

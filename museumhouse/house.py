@@ -5,8 +5,8 @@ from museumhouse.layout import START, bytes_at, next_at, numbers_at
 from museumhouse.museum import Museum
 
 
+# All the numbers that are answered to the call that stands there.
 def said_to(museum, calls, at):
-    """All the numbers that are answered to the call that stands there."""
     if calls[at] == START:
         return [0]
     return [change(museum, calls[at], numbers_at(calls, at), bytes_at(calls, at))]

@@ -34,8 +34,8 @@ def has_row(call):
     return call in (THING, FIND, WRITE)
 
 
+# Where the call's row would begin: behind its numbers and the row's length.
 def row_start(calls, at):
-    """Where the call's row would begin: behind its numbers and the row's length."""
     return at + 1 + NUMBERS[calls[at]] + 1
 
 
@@ -43,8 +43,8 @@ def numbers_at(calls, at):
     return calls[at + 1:at + 1 + NUMBERS[calls[at]]]
 
 
+# The first n bytes of the call's row; none if it has no row.
 def bytes_at(calls, at):
-    """The first n bytes of the call's row; none if it has no row."""
     if not has_row(calls[at]):
         return []
     start = row_start(calls, at)

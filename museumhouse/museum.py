@@ -3,9 +3,8 @@
 from museumhouse.bounds import MOST_ROOM, MOST_SHOWS, STORE
 
 
+# Its light is the one that holds today; what it was before is kept in the light of the things.
 class Place:
-    """Its light is the one that holds today; what it was before is kept in the light of the things."""
-
     def __init__(self, up, kind, room, light):
         self.up = up
         self.kind = kind
@@ -13,9 +12,8 @@ class Place:
         self.light = light
 
 
+# The name is the list of its bytes. back is None unless it's lent.
 class Thing:
-    """The name is the list of its bytes. back is None unless it's lent."""
-
     def __init__(self, name, material, limit, came, place):
         self.name = name
         self.material = material
@@ -28,9 +26,8 @@ class Thing:
         self.lights = [0]
 
 
+# It lasts from its first day to the one before over. booked has the numbers of things.
 class Show:
-    """It lasts from its first day to the one before over. booked has the numbers of things."""
-
     def __init__(self, hall, first, over):
         self.hall = hall
         self.first = first
@@ -39,9 +36,8 @@ class Show:
         self.booked = []
 
 
+# A free place of the list of shows is None. An entry is its call's number and what the call was given.
 class Museum:
-    """A free place of the list of shows is None. An entry is its call's number and what the call was given."""
-
     def __init__(self):
         self.today = 0
         self.places = [Place(None, STORE, MOST_ROOM, 0)]

@@ -75,8 +75,8 @@ def unbook_thing(museum, show, thing):
     return len(booked)
 
 
+# Whether the things that come fit beside those that are there and aren't among them.
 def has_room_for(museum, place, coming):
-    """Whether the things that come fit beside those that are there and aren't among them."""
     staying = [thing for thing in things_at(museum, place) if thing not in coming]
     return len(staying) + len(coming) <= museum.places[place].room
 

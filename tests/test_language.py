@@ -89,6 +89,8 @@ class LanguageTest(unittest.TestCase):
                 self.assertEqual(node.orelse, [], where)
             if isinstance(node, ast.Try):
                 self.assertEqual(node.finalbody, [], where)
+            if isinstance(node, ast.Expr) and node.lineno > 1:
+                self.assertIsInstance(node.value, ast.Call, where)
             if isinstance(node, ast.Assign):
                 self.assertEqual(len(node.targets), 1, where)
                 self.assertIsInstance(node.targets[0], (ast.Name, ast.Attribute, ast.Subscript), where)
@@ -132,7 +134,7 @@ class LanguageTest(unittest.TestCase):
             self.assertEqual(node.decorator_list, [], where)
             self.assertLessEqual(len(node.bases), 1, where)
             for part in node.body:
-                self.assertIsInstance(part, (ast.FunctionDef, ast.Expr), where)
+                self.assertIsInstance(part, ast.FunctionDef, where)
 
     def test_imports(self):
         defined = {"museumhouse." + path.stem: bound_names(tree)[0] for path, tree in trees()}
