@@ -17,3 +17,6 @@ MOST_HARM = 5
 HARM_BAD_FOR_HALL = 3
 MOST_SHOWS = 6
 MOST_ENTRIES = 400
+# How many numbers are told of an entry, and how many bytes a question has at most.
+ENTRY_NUMBERS = 13
+MOST_BYTES = 120

@@ -3,11 +3,11 @@
 from museumhouse.bounds import MOST_ENTRIES
 from museumhouse.keeping import add_place, add_thing, day_refusal, harm_refusal, light_refusal, move_refusal
 from museumhouse.keeping import move_thing, pass_days, place_refusal, set_harm, set_light, thing_refusal
-from museumhouse.layout import BOOK, DAY, HANG, HARM, HOME, LEND, LIGHT, MOVE, PLACE, SHOW, THING, UNBOOK
+from museumhouse.layout import BOOK, DAY, DOWN, HANG, HARM, HOME, LEND, LIGHT, MOVE, PLACE, SHOW, THING, UNBOOK
 from museumhouse.lending import bring_home, home_refusal, lend_refusal, lend_thing
 from museumhouse.refusals import LOG_FULL, NOT_REFUSED
-from museumhouse.showing import add_show, book_refusal, book_thing, hang_refusal, hang_show, show_refusal
-from museumhouse.showing import unbook_refusal, unbook_thing
+from museumhouse.showing import add_show, book_refusal, book_thing, cancel_refusal, cancel_show, down_refusal
+from museumhouse.showing import hang_refusal, hang_show, show_refusal, take_down, unbook_refusal, unbook_thing
 
 
 def refusal_of(museum, call, numbers, letters):
@@ -35,7 +35,9 @@ def refusal_of(museum, call, numbers, letters):
         return unbook_refusal(museum, numbers[0], numbers[1])
     if call == HANG:
         return hang_refusal(museum, numbers[0])
-    raise NotImplementedError(f"call {call}")
+    if call == DOWN:
+        return down_refusal(museum, numbers[0], numbers[1])
+    return cancel_refusal(museum, numbers[0])
 
 
 def carry_out(museum, call, numbers, letters):
@@ -63,7 +65,9 @@ def carry_out(museum, call, numbers, letters):
         return unbook_thing(museum, numbers[0], numbers[1])
     if call == HANG:
         return hang_show(museum, numbers[0])
-    raise NotImplementedError(f"call {call}")
+    if call == DOWN:
+        return take_down(museum, numbers[0], numbers[1])
+    return cancel_show(museum, numbers[0])
 
 
 # Nothing is touched before all refusals are ruled out, so a refused call leaves all as it was.

@@ -23,6 +23,14 @@ def is_away(museum, place):
     return museum.places[place].kind == AWAY
 
 
+# Whether a place is this one, or within it, in however many steps; there may be no such place.
+def is_within(museum, place, outer):
+    at = place
+    while at is not None and at != outer:
+        at = museum.places[at].up
+    return at is not None
+
+
 def things_at(museum, place):
     return [number for number, kept in enumerate(museum.things) if kept.place == place]
 
@@ -65,6 +73,12 @@ def meets(kept, first, over):
 
 def any_meets(shows, first, over):
     return any([meets(kept, first, over) for kept in shows])
+
+
+# Where the thing was at the end of a day, from the one when it came to today.
+def place_on(museum, thing, day):
+    kept = museum.things[thing]
+    return kept.place if day == museum.today else kept.stays[day - kept.came]
 
 
 # The thing's light to a day that isn't after today.

@@ -1,7 +1,8 @@
 """The one function that the package offers: the answers to a list of calls."""
 
+from museumhouse.asking import ask
 from museumhouse.changes import change
-from museumhouse.layout import START, bytes_at, next_at, numbers_at
+from museumhouse.layout import CANCEL, START, bytes_at, next_at, numbers_at
 from museumhouse.museum import Museum
 
 
@@ -9,7 +10,12 @@ from museumhouse.museum import Museum
 def said_to(museum, calls, at):
     if calls[at] == START:
         return [0]
-    return [change(museum, calls[at], numbers_at(calls, at), bytes_at(calls, at))]
+    numbers = numbers_at(calls, at)
+    row = bytes_at(calls, at)
+    # The calls up to this one are those that make an entry; behind it stand those that ask.
+    if calls[at] <= CANCEL:
+        return [change(museum, calls[at], numbers, row)]
+    return ask(museum, calls[at], numbers, row)
 
 
 def answers(calls):

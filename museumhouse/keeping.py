@@ -96,6 +96,7 @@ def day_refusal(museum, n):
 
 def end_day(museum):
     for kept in museum.things:
+        kept.stays.append(kept.place)
         kept.lights.append(kept.lights[-1] + museum.places[kept.place].light)
     museum.today = museum.today + 1
 

@@ -3,7 +3,7 @@
 from museumhouse.bounds import MOST_ROOM, MOST_SHOWS, STORE
 
 
-# Its light is the one that holds today; what it was before is kept in the light of the things.
+# Its light is the one that holds today; what it was before is kept in the light of the things. The house has no up.
 class Place:
     def __init__(self, up, kind, room, light):
         self.up = up
@@ -22,7 +22,9 @@ class Thing:
         self.came = came
         self.place = place
         self.back = None
-        # Its light to each day from the one when it came: written once, as a day ends, so that the past stays.
+        # Where it was at the end of each day that's past, from the one when it came, and its light to each day from
+        # that one: written once, as a day ends, so that the past stays.
+        self.stays = []
         self.lights = [0]
 
 

@@ -1,8 +1,8 @@
 """The calls on shows: why each is refused, and what it does."""
 
 from museumhouse.bounds import LAST_DAY
-from museumhouse.facts import all_shows, any_meets, has_place, has_show, has_thing, is_hall, is_hanging
-from museumhouse.facts import is_harmed, is_lent, light_with, shows_with, things_at
+from museumhouse.facts import all_shows, any_meets, has_place, has_show, has_thing, is_away, is_hall
+from museumhouse.facts import is_hanging, is_harmed, is_lent, light_with, shows_with, things_at
 from museumhouse.museum import Show
 from museumhouse.refusals import ALREADY, HARMED, IS_HUNG, NO_ROOM, NO_SUCH, NOT_REFUSED, NOT_SO
 from museumhouse.refusals import NOT_THE_TIME, TAKEN, TOO_MANY, TOO_MUCH_LIGHT, WRONG
@@ -98,9 +98,46 @@ def hang_refusal(museum, show):
     return NOT_REFUSED
 
 
+def put_all(museum, things, place):
+    for thing in things:
+        museum.things[thing].place = place
+
+
 def hang_show(museum, show):
     kept = museum.shows[show]
-    for thing in kept.booked:
-        museum.things[thing].place = kept.hall
+    put_all(museum, kept.booked, kept.hall)
     kept.hung = True
     return len(kept.booked)
+
+
+def down_refusal(museum, show, place):
+    if not has_show(museum, show) or not has_place(museum, place):
+        return NO_SUCH
+    kept = museum.shows[show]
+    if not kept.hung:
+        return NOT_SO
+    if is_hall(museum, place) or is_away(museum, place):
+        return WRONG
+    if not has_room_for(museum, place, kept.booked):
+        return NO_ROOM
+    return NOT_REFUSED
+
+
+def take_down(museum, show, place):
+    kept = museum.shows[show]
+    put_all(museum, kept.booked, place)
+    museum.shows[show] = None
+    return len(kept.booked)
+
+
+def cancel_refusal(museum, show):
+    if not has_show(museum, show):
+        return NO_SUCH
+    if museum.shows[show].hung:
+        return IS_HUNG
+    return NOT_REFUSED
+
+
+def cancel_show(museum, show):
+    museum.shows[show] = None
+    return 0

@@ -64,6 +64,67 @@ def hang(number):
     return [12, number]
 
 
+def down(number, at):
+    return [13, number, at]
+
+
+def cancel(number):
+    return [14, number]
+
+
+def where(number, on):
+    return [15, number, on]
+
+
+def dose(number, to):
+    return [16, number, to]
+
+
+def until(number):
+    return [17, number]
+
+
+def inside(at):
+    return [18, at]
+
+
+def overdue():
+    return [19]
+
+
+def must():
+    return [20]
+
+
+def row_of(text, behind):
+    """text is a text or a list of bytes; behind fills the row up to 120."""
+    row = [ord(sign) for sign in text] if isinstance(text, str) else list(text)
+    return row, (row + [behind] * 120)[:120]
+
+
+def find(text, n=None, behind=0):
+    row, filled = row_of(text, behind)
+    return [21, len(row) if n is None else n, 120] + filled
+
+
+def write(text, n=None, behind=0):
+    row, filled = row_of(text, behind)
+    return [22, len(row) if n is None else n, 120] + filled
+
+
+def entry(k):
+    return [23, k]
+
+
+def state():
+    return [24]
+
+
+def bits(*things):
+    """What's answered where so many things are told as bits."""
+    return [len(things), sum(2 ** number for number in things)]
+
+
 def names(count):
     """So many names, no two the same."""
     return ["abcdefghijklmnopqrstuvwxyz"[k] for k in range(count)]
@@ -86,9 +147,10 @@ def said(calls):
 
 class HouseCase(unittest.TestCase):
     def check(self, *pairs):
-        """Each pair is a call and the number that must be answered to it; a start is put ahead."""
+        """Each pair is a call and the number, or all the numbers, that must be answered; a start is put ahead."""
         told = said([start()] + [call for call, wanted in pairs])
         self.assertEqual(len(told), len(pairs) + 1)
         self.assertEqual(told[0], [0])
         for k, (call, wanted) in enumerate(pairs):
-            self.assertEqual(told[k + 1], [wanted], f"call {k} of the line: {call}")
+            wanted = wanted if isinstance(wanted, list) else [wanted]
+            self.assertEqual(told[k + 1], wanted, f"call {k} of the line: {call}")

@@ -1,5 +1,10 @@
 """The document's words told over again, slowly: days one by one, out of all that was ever told or put."""
 
+from tests.grammar import NoQuestion, parts_of, tree_of, written
+
+NAMES = ("start place light thing move day harm lend home show book unbook hang down cancel where dose until inside "
+         "overdue must find write entry state").split()
+
 
 class Model:
     def __init__(self):
@@ -7,7 +12,7 @@ class Model:
         self.places = [dict(up=None, kind=0, room=24, told=[(0, 0)])]
         self.things = []
         self.shows = {}
-        self.entries = 0
+        self.entries = []
 
     def light(self, place, day):
         return [units for told, units in self.places[place]["told"] if told <= day][-1]
@@ -55,21 +60,23 @@ class Model:
         self.things[thing]["puts"].append((self.today, place))
 
     def answer(self, call):
+        """All the numbers that are answered."""
         if call[0] == 0:
             self.__init__()
-            return 0
-        names = ("", "place", "light", "thing", "move", "day", "harm", "lend", "home", "show", "book", "unbook", "hang")
-        steps = getattr(self, names[call[0]] + "_call")(*call[1:])
+            return [0]
+        steps = getattr(self, NAMES[call[0]] + "_call")(*call[1:])
         refusals = next(steps)
         for refusal, due in refusals:
             if due():
-                return refusal
-        if self.entries == 400:
-            return -75
-        self.entries += 1
-        return next(steps)
+                return [refusal]
+        if call[0] > 14:
+            return next(steps)
+        if len(self.entries) == 400:
+            return [-75]
+        self.entries.append(call[:5] + call[6:6 + call[1]] if call[0] == 3 else call)
+        return [next(steps)]
 
-    # Each call yields its refusals in order, then, done, its answer.
+    # Each call yields its refusals in order, then, done, its answer; of one that asks, all its numbers.
 
     def place_call(self, up, kind, room, light):
         yield [(-2, lambda: up >= len(self.places)),
@@ -90,7 +97,7 @@ class Model:
                (-22, lambda: material > 7 or limit > 1000000 or self.kind(place) == 3),
                (-17, lambda: name in [thing["name"] for thing in self.things]),
                (-28, lambda: len(self.things) == 24), (-12, lambda: self.full(place))]
-        self.things.append(dict(name=name, limit=limit, harm=0, came=self.today, back=None,
+        self.things.append(dict(name=name, material=material, limit=limit, harm=0, came=self.today, back=None,
                                 puts=[(self.today, place)]))
         yield len(self.things) - 1
 
@@ -178,3 +185,103 @@ class Model:
             self.put(thing, self.shows[show]["hall"])
         self.shows[show]["hung"] = True
         yield len(booked())
+
+    def down_call(self, show, place):
+        yield [(-2, lambda: show not in self.shows or place >= len(self.places)),
+               (-6, lambda: not self.shows[show]["hung"]), (-22, lambda: self.kind(place) in (1, 3)),
+               (-12, lambda: len(self.there(place) | set(self.shows[show]["booked"])) > self.places[place]["room"])]
+        booked = self.shows.pop(show)["booked"]
+        for thing in booked:
+            self.put(thing, place)
+        yield len(booked)
+
+    def cancel_call(self, show):
+        yield [(-2, lambda: show not in self.shows), (-15, lambda: self.shows[show]["hung"])]
+        del self.shows[show]
+        yield 0
+
+    def where_call(self, thing, day):
+        yield [(-2, lambda: thing >= len(self.things)), (-22, lambda: day > self.today),
+               (-6, lambda: day < self.things[thing]["came"])]
+        yield [self.at(thing, day)]
+
+    def dose_call(self, thing, day):
+        yield [(-2, lambda: thing >= len(self.things)), (-22, lambda: day > self.today)]
+        yield [self.dose(thing, day)]
+
+    def until_call(self, thing):
+        yield [(-2, lambda: thing >= len(self.things)),
+               (-33, lambda: self.dose(thing, self.today) > self.things[thing]["limit"])]
+        day = self.today
+        total = self.dose(thing, day) + self.light(self.now(thing), self.today)
+        while day < 2000 and total <= self.things[thing]["limit"]:
+            day += 1
+            total += self.light(self.now(thing), self.today)
+        yield [day]
+
+    def within(self, outer):
+        """The places that are this one or within it; none if it isn't there."""
+        found = {outer} & set(range(len(self.places)))
+        for place in range(len(self.places)):
+            if self.places[place]["up"] in found:
+                found.add(place)
+        return found
+
+    def told(self, is_so):
+        things = [thing for thing in range(len(self.things)) if is_so(thing)]
+        return [len(things), sum(2 ** thing for thing in things)]
+
+    def inside_call(self, place):
+        yield [(-2, lambda: place >= len(self.places))]
+        yield self.told(lambda thing: self.now(thing) in self.within(place))
+
+    def overdue_call(self):
+        yield []
+        yield self.told(lambda thing: (self.things[thing]["back"] or 2001) < self.today)
+
+    def must_call(self):
+        yield []
+        yield self.told(lambda thing: self.kind(self.now(thing)) == 1 and (
+            self.things[thing]["harm"] >= 3 or self.dose(thing, self.today) > self.things[thing]["limit"]))
+
+    def is_so(self, tree, thing):
+        word = tree[0]
+        if word == "or":
+            return self.is_so(tree[1], thing) or self.is_so(tree[2], thing)
+        if word == "and":
+            return self.is_so(tree[1], thing) and self.is_so(tree[2], thing)
+        if word == "not":
+            return not self.is_so(tree[1], thing)
+        if word == "in":
+            return self.now(thing) in self.within(tree[1])
+        if len(tree) == 1:
+            return {"all": True, "lent": self.things[thing]["back"] is not None,
+                    "shown": self.kind(self.now(thing)) == 1}[word]
+        value = self.dose(thing, self.today) if word == "light" else self.things[thing][word]
+        return {"<": value < tree[2], "=": value == tree[2], ">": value > tree[2]}[tree[1]]
+
+    def no_question(self, text):
+        try:
+            tree_of(parts_of(text))
+        except NoQuestion:
+            return True
+        return False
+
+    def find_call(self, n, length, *row):
+        text = bytes(row[:n])
+        yield [(-22, lambda: n > 120), (-71, lambda: self.no_question(text))]
+        tree = tree_of(parts_of(text))
+        yield self.told(lambda thing: self.is_so(tree, thing))
+
+    def write_call(self, n, length, *row):
+        text = bytes(row[:n])
+        yield [(-22, lambda: n > 120), (-71, lambda: self.no_question(text)), (-75, lambda: len(written(text)) > 120)]
+        yield [len(written(text))] + list(written(text).ljust(120, b"\0"))
+
+    def entry_call(self, k):
+        yield [(-2, lambda: k >= len(self.entries))]
+        yield [len(self.entries)] + (self.entries[k] + [0] * 13)[:13]
+
+    def state_call(self):
+        yield []
+        yield [self.today, len(self.places), len(self.things), len(self.shows), len(self.entries)]

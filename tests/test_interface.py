@@ -5,12 +5,15 @@ import unittest
 from museumhouse import layout
 from museumhouse.house import answers
 from museumhouse.layout import bytes_at, next_at, numbers_at
-from tests.helper import (AWAY, BIGGEST, HALL, HouseCase, STORE, book, day, hang, harm, home, lend, light, move, names,
-                          place, said, show, start, thing, unbook)
+from tests.helper import (AWAY, BIGGEST, HALL, HouseCase, STORE, book, cancel, day, dose, down, entry, find, hang, harm,
+                          home, inside, lend, light, move, must, names, overdue, place, said, show, start, state, thing,
+                          unbook, until, where, write)
 
 EVERY_CALL = [
     start(), place(0, HALL, 3, 50), place(0, AWAY, 1, 7), light(1, 60), thing("vase", 1, 1000, 0), move(0, 1),
-    day(1), harm(0, 0), lend(0, 2, 5), home(0, 0), show(1, 1, 3), book(0, 0), unbook(0, 0), hang(0),
+    day(1), harm(0, 0), lend(0, 2, 5), home(0, 0), show(1, 1, 3), book(0, 0), unbook(0, 0), hang(0), down(0, 0),
+    show(1, 2, 4), cancel(0), where(0, 1), dose(0, 1), until(0), inside(0), overdue(), must(), find("lent"), write("in1"),
+    entry(3), state(),
 ]
 
 
@@ -18,10 +21,17 @@ class InterfaceTest(unittest.TestCase):
     def test_each_answer_stands_behind_its_length(self):
         line = [number for call in EVERY_CALL for number in call]
         self.assertEqual(answers(line), [
-            1, 0, 1, 1, 1, 2, 1, 0, 1, 0, 1, 0, 1, 1, 1, 0, 1, 0, 1, 0, 1, 0, 1, 1, 1, 0, 1, 0])
+            1, 0, 1, 1, 1, 2, 1, 0, 1, 0, 1, 0, 1, 1, 1, 0, 1, 0, 1, 0, 1, 0, 1, 1, 1, 0, 1, 0, 1, 0, 1, 0, 1, 0,
+            1, 0, 1, 60, 1, 2000, 2, 1, 1, 2, 0, 0, 2, 0, 0, 2, 0, 0, 121, 4, 105, 110, 32, 49] + [0] * 116 + [
+            14, 16, 3, 4, 1, 1000, 0, 118, 97, 115, 101, 0, 0, 0, 0, 5, 1, 3, 1, 0, 16])
+
+    def test_every_call_stands_there(self):
+        self.assertEqual({call[0] for call in EVERY_CALL}, set(range(25)))
 
     def test_a_refusal_is_one_number(self):
         self.assertEqual(answers([0, 5, 0]), [1, 0, 1, -22])
+        refused = [where(0, 0), dose(0, 0), until(0), inside(1), find("or"), write("or"), entry(0), find("", n=121)]
+        self.assertEqual(said([start()] + refused), [[0], [-2], [-2], [-2], [-2], [-71], [-71], [-2], [-22]])
 
     def test_a_list_with_a_start_alone(self):
         self.assertEqual(answers([0]), [1, 0])

@@ -4,17 +4,18 @@ import unittest
 
 from museumhouse.changes import change
 from museumhouse.museum import Museum
-from tests.helper import (AWAY, HALL, HouseCase, STORE, book, day, hang, harm, home, lend, light, move, place, said,
-                          show, start, thing, unbook)
+from tests.helper import (AWAY, HALL, HouseCase, STORE, book, cancel, day, down, hang, harm, home, lend, light, move,
+                          place, said, show, start, state, thing, unbook)
 
 # Place 1 is a hall with room for 2, place 2 away, place 3 a store with room for 1; things 0 to 3, 3 is lent;
-# show 0 is today and has thing 0, show 1 is later and has nothing.
+# show 0 is today and has thing 0, show 1 is later and has nothing; show 2, in the hall 4, hangs and has thing 4.
 SETTING = [place(0, HALL, 2, 0), place(0, AWAY, 2, 0), place(0, STORE, 1, 0), thing("a"), thing("b", limit=0),
-           thing("c"), thing("d"), lend(3, 2, 5), show(1, 0, 2), show(1, 8, 9), book(0, 0)]
+           thing("c"), thing("d"), lend(3, 2, 5), show(1, 0, 2), show(1, 8, 9), book(0, 0), place(0, HALL, 2, 0),
+           thing("z"), show(4, 0, 9), book(2, 4), hang(2)]
 
 # Calls that would be done in that setting, each by itself.
 POSSIBLE = [place(0, STORE, 1, 0), light(1, 7), thing("e"), move(2, 3), day(1), harm(2, 3), lend(2, 2, 5), home(3, 0),
-            show(1, 3, 4), book(1, 1), unbook(0, 0), hang(0)]
+            show(1, 3, 4), book(1, 1), unbook(0, 0), hang(0), down(2, 3), cancel(0), cancel(1)]
 
 
 def full(left=0):
@@ -25,7 +26,8 @@ def full(left=0):
 class LogTest(HouseCase):
     def test_the_setting(self):
         told = said([start()] + SETTING)
-        self.assertEqual(told, [[0], [1], [2], [3], [0], [1], [2], [3], [0], [0], [1], [1]])
+        self.assertEqual(told, [[0], [1], [2], [3], [0], [1], [2], [3], [0], [0], [1], [1], [4], [4], [2], [1], [1]])
+        self.assertEqual({call[0] for call in POSSIBLE}, set(range(1, 15)))
         for call in POSSIBLE:
             self.assertGreaterEqual(said([start()] + SETTING + [call])[-1][0], 0, call)
 
@@ -45,8 +47,10 @@ class LogTest(HouseCase):
 
     def test_nothing_is_done_beyond(self):
         every = POSSIBLE * 2
-        told = said(full() + every)
-        self.assertEqual(told[-len(every):], [[-75]] * len(every))
+        told = said(full() + [state()] + every + [state()])
+        self.assertEqual(told[-len(every) - 1:-1], [[-75]] * len(every))
+        self.assertEqual(told[-1], [0, 5, 5, 3, 400])
+        self.assertEqual(told[-len(every) - 2], told[-1])
 
     def test_none_of_them_changes_what_others_answer(self):
         for call in POSSIBLE:
@@ -73,7 +77,8 @@ class LogTest(HouseCase):
             (move(0, 2), -22), (move(3, 0), -17), (day(0), -22), (day(2001), -22), (harm(9, 0), -2), (harm(0, 6), -22),
             (lend(9, 2, 5), -2), (lend(0, 0, 5), -22), (lend(3, 2, 5), -17), (lend(0, 2, 5), -16), (home(9, 0), -2),
             (home(0, 0), -6), (home(3, 2), -22), (show(9, 0, 1), -2), (show(0, 0, 1), -22), (show(1, 1, 3), -16),
-            (book(9, 0), -2), (book(0, 0), -17), (unbook(9, 0), -2), (unbook(0, 1), -6), (hang(9), -2), (hang(1), -13)]
+            (book(9, 0), -2), (book(0, 0), -17), (unbook(9, 0), -2), (unbook(0, 1), -6), (hang(9), -2), (hang(1), -13),
+            (down(9, 0), -2), (down(0, 0), -6), (down(2, 1), -22), (cancel(9), -2), (cancel(2), -15)]
         told = said(full() + [call for call, wanted in refused])
         self.assertEqual(told[-len(refused):], [[wanted] for call, wanted in refused])
 
