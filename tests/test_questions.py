@@ -222,8 +222,8 @@ class NoQuestionTest(FoundTest):
         self.check_none("light", "limit", "material", "harm", "came", "not harm", "(came)", "harm and all")
 
     def test_a_byte_that_is_no_part(self):
-        for byte in list(range(32)) + [33, 34, 37, 38, 39, 42, 43, 44, 45, 46, 47, 58, 59, 63, 64, 65, 76, 90, 91, 93, 95, 96,
-                                       123, 124, 126, 127, 128, 160, 225, 255]:
+        known = b"abcdefghijklmnopqrstuvwxyz0123456789()<=> "
+        for byte in sorted(set(range(256)) - set(known)):
             for row in ([byte] + [ord(sign) for sign in "all"], [ord(sign) for sign in "all"] + [byte],
                         [ord(sign) for sign in "all or"] + [byte] + [ord(sign) for sign in "all"],
                         [ord(sign) for sign in "all "] + [byte] + [ord(sign) for sign in " or all"], [byte]):
